@@ -521,7 +521,7 @@ func TestSortNew(t *testing.T) {
 	wantNew(t, wide(api.ShFun, 500, api.Shape{}))
 }
 
-// TestSortGreat: P7.2, types that are far too great are told as they are, in new memory, as long as no list stands in them twice.
+// TestSortGreat: P7.2, types that are far too great are told as they are, in new memory, also where one list stands in them again and again.
 func TestSortGreat(t *testing.T) {
 	i := api.Shape{Kind: api.ShInt}
 	flat := wide(api.ShFun, 1<<17, i)
@@ -529,7 +529,11 @@ func TestSortGreat(t *testing.T) {
 	for range 1 << 10 {
 		tree.Parts = append(tree.Parts, wide(api.ShRecord, 100, i))
 	}
-	for _, s := range []api.Shape{flat, tree, within(i, 1<<16), within(tree, 3)} {
+	shared := i
+	for range 16 {
+		shared = api.Shape{Kind: api.ShRecord, Names: []string{"b", "a"}, Parts: []api.Shape{shared, shared}}
+	}
+	for _, s := range []api.Shape{flat, tree, within(i, 1<<16), within(tree, 3), shared} {
 		wantNew(t, s)
 		if !equal(shape.Sort(s), s) {
 			t.Error("Sort of a great type")

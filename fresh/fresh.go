@@ -1,0 +1,25 @@
+// Package fresh tells trees as they are, in new memory: none of their lists is one that was handed in, and none stands in them twice. Trees that may not be are told so, too.
+package fresh
+
+import (
+	"slices"
+
+	"pandect/api"
+)
+
+// Shape tells a type in new memory.
+func Shape(s api.Shape) api.Shape {
+	parts := func(s *api.Shape) *[]api.Shape { return &s.Parts }
+	return copied(s, parts, func(s *api.Shape) { s.Names = slices.Clone(s.Names) })
+}
+
+// Term tells an expression in new memory.
+func Term(t api.Term) api.Term {
+	parts := func(t *api.Term) *[]api.Term { return &t.Parts }
+	return copied(t, parts, func(t *api.Term) {
+		t.Names, t.Vars, t.Shapes = slices.Clone(t.Names), slices.Clone(t.Vars), slices.Clone(t.Shapes)
+		for i, s := range t.Shapes {
+			t.Shapes[i] = Shape(s)
+		}
+	})
+}
