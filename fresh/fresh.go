@@ -1,4 +1,4 @@
-// Package fresh tells trees as they are, in new memory: none of their lists is one that was handed in, and none stands in them twice. Trees that may not be are told so, too.
+// Package fresh tells trees and modules as they are, in new memory: none of their lists is one that was handed in, and none stands in them twice. What may not be is told so, too.
 package fresh
 
 import (
@@ -22,4 +22,17 @@ func Term(t api.Term) api.Term {
 			t.Shapes[i] = Shape(s)
 		}
 	})
+}
+
+// Module tells a module in new memory.
+func Module(m api.Module) api.Module {
+	m.Imports, m.Decls, m.Exports = slices.Clone(m.Imports), slices.Clone(m.Decls), slices.Clone(m.Exports)
+	for i := range m.Imports {
+		m.Imports[i].Range = slices.Clone(m.Imports[i].Range)
+	}
+	for i := range m.Decls {
+		d := &m.Decls[i]
+		d.Shape, d.Term = Shape(d.Shape), Term(d.Term)
+	}
+	return m
 }

@@ -93,6 +93,29 @@ func TestFresh(t *testing.T) {
 	}
 }
 
+// anyModule is a module that may not be with something in each field.
+func anyModule() api.Module {
+	bound := api.Bound{Op: 9, V: api.Version{Major: -1, Pre: "."}}
+	one := api.Import{Name: "Q", Pin: bound.V, Range: spare(bound, bound, api.Bound{}), At: -1}
+	decl := api.Decl{Kind: 9, Name: "let", Shape: anyShape(), Term: anyTerm(), At: 5}
+	return api.Module{Name: "P", Imports: spare(one, one, one, api.Import{}), Decls: spare(decl, decl, api.Decl{}, decl), Exports: spare("z", "a", "a"), At: -7}
+}
+
+// TestModule: whatever module is handed in is told as it is, in new memory, and left as it is.
+func TestModule(t *testing.T) {
+	for _, m := range []api.Module{{}, anyModule(), {Imports: []api.Import{}, Decls: []api.Decl{}, Exports: []string{}}, {Imports: []api.Import{{Range: []api.Bound{}}}, Decls: []api.Decl{{Shape: api.Shape{Names: []string{}}, Term: api.Term{Vars: []string{}}}}}} {
+		wantFresh(t, m, fresh.Module(m))
+	}
+	m := anyModule()
+	copied := fresh.Module(m)
+	copied.Imports[0].Range[0].Op, copied.Imports[1].At, copied.Exports[0] = 77, 77, "q"
+	copied.Decls[0].Shape.Parts[0].Kind, copied.Decls[0].Term.Parts[0].At, copied.Decls[2].At = 77, 77, 77
+	_ = append(copied.Exports, "q")
+	if !reflect.DeepEqual(m, anyModule()) || m.Exports[:3][2] != "z" {
+		t.Errorf("%v", m)
+	}
+}
+
 // TestLeft: what is handed in is left as it is, its spare room, too.
 func TestLeft(t *testing.T) {
 	u := anyTerm()

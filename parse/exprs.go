@@ -10,10 +10,10 @@ import (
 
 // wholeTerm reads an expression that stands in no other one. Only such a one may be too great: how great it is, is known at its end.
 func (p *parser) wholeTerm() api.Term {
-	at := p.ahead().At
+	at := p.Ahead().At
 	t := p.expr()
 	if err := terms.Check(t); err != api.OK {
-		p.fail(err, at)
+		p.Fail(err, at)
 	}
 	return t
 }
@@ -22,15 +22,15 @@ func (p *parser) wholeTerm() api.Term {
 func (p *parser) expr() api.Term {
 	at := p.begin()
 	switch {
-	case p.pass("fun"):
+	case p.Pass("fun"):
 		return p.fun(at)
-	case p.pass("let"):
+	case p.Pass("let"):
 		return p.let(at)
-	case p.pass("if"):
+	case p.Pass("if"):
 		return p.choice(at)
-	case p.pass("case"):
+	case p.Pass("case"):
 		return p.match(at)
-	case p.sees("["):
+	case p.Sees("["):
 		return p.list(at)
 	}
 	return p.chain(at)
@@ -38,9 +38,9 @@ func (p *parser) expr() api.Term {
 
 // begin tells the place of the token ahead, which an expression begins with. One below 0 does not fit: no expression may be there.
 func (p *parser) begin() int {
-	t := p.ahead()
+	t := p.Ahead()
 	if t.At < 0 {
-		p.misfit()
+		p.Misfit()
 	}
 	return t.At
 }
@@ -48,22 +48,22 @@ func (p *parser) begin() int {
 // fun reads a function behind its first word.
 func (p *parser) fun(at int) api.Term {
 	t := api.Term{Kind: api.TmFun, At: at}
-	p.between("(", ",", ")", func() {
-		t.Names = p.another(t.Names)
-		p.want(":")
+	p.Between("(", ",", ")", func() {
+		t.Names = append(t.Names, p.Another(t.Names, p.Name))
+		p.Want(":")
 		t.Shapes = append(t.Shapes, p.wholeType())
 	})
-	p.want("->")
+	p.Want("->")
 	t.Parts = append(t.Parts, p.expr())
 	return t
 }
 
 // let reads a value with a name behind its first word.
 func (p *parser) let(at int) api.Term {
-	t := api.Term{Kind: api.TmLet, Name: p.name(), At: at}
-	p.want("=")
+	t := api.Term{Kind: api.TmLet, Name: p.Name(), At: at}
+	p.Want("=")
 	t.Parts = append(t.Parts, p.expr())
-	p.want("in")
+	p.Want("in")
 	t.Parts = append(t.Parts, p.expr())
 	return t
 }
@@ -72,11 +72,11 @@ func (p *parser) let(at int) api.Term {
 func (p *parser) choice(at int) api.Term {
 	t := api.Term{Kind: api.TmIf, At: at}
 	t.Parts = append(t.Parts, p.expr())
-	p.want("then")
+	p.Want("then")
 	t.Parts = append(t.Parts, p.expr())
-	p.want("else")
+	p.Want("else")
 	t.Parts = append(t.Parts, p.expr())
-	p.want("as")
+	p.Want("as")
 	t.Shapes = append(t.Shapes, p.wholeType())
 	return t
 }
@@ -85,18 +85,18 @@ func (p *parser) choice(at int) api.Term {
 func (p *parser) match(at int) api.Term {
 	t := api.Term{Kind: api.TmMatch, At: at}
 	t.Parts = append(t.Parts, p.expr())
-	p.want("of")
-	p.between("{", "|", "}", func() {
-		t.Names = p.another(t.Names)
-		p.want("(")
-		t.Vars = append(t.Vars, p.name())
-		p.want(":")
+	p.Want("of")
+	p.Between("{", "|", "}", func() {
+		t.Names = append(t.Names, p.Another(t.Names, p.Name))
+		p.Want("(")
+		t.Vars = append(t.Vars, p.Name())
+		p.Want(":")
 		t.Shapes = append(t.Shapes, p.wholeType())
-		p.want(")")
-		p.want("->")
+		p.Want(")")
+		p.Want("->")
 		t.Parts = append(t.Parts, p.expr())
 	})
-	p.want("as")
+	p.Want("as")
 	t.Shapes = append(t.Shapes, p.wholeType())
 	return t
 }
@@ -104,8 +104,8 @@ func (p *parser) match(at int) api.Term {
 // list reads a list.
 func (p *parser) list(at int) api.Term {
 	t := api.Term{Kind: api.TmList, At: at}
-	p.between("[", ",", "]", func() { t.Parts = append(t.Parts, p.expr()) })
-	p.want("of")
+	p.Between("[", ",", "]", func() { t.Parts = append(t.Parts, p.expr()) })
+	p.Want("of")
 	t.Shapes = append(t.Shapes, p.wholeType())
 	return t
 }
@@ -115,12 +115,12 @@ func (p *parser) chain(at int) api.Term {
 	t := p.atom(at)
 	for {
 		switch {
-		case p.sees("("):
+		case p.Sees("("):
 			parts := []api.Term{t}
-			p.between("(", ",", ")", func() { parts = append(parts, p.expr()) })
+			p.Between("(", ",", ")", func() { parts = append(parts, p.expr()) })
 			t = api.Term{Kind: api.TmCall, Parts: parts, At: at}
-		case p.pass("."):
-			t = api.Term{Kind: api.TmField, Name: p.name(), Parts: []api.Term{t}, At: at}
+		case p.Pass("."):
+			t = api.Term{Kind: api.TmField, Name: p.Name(), Parts: []api.Term{t}, At: at}
 		default:
 			return t
 		}
@@ -130,24 +130,24 @@ func (p *parser) chain(at int) api.Term {
 // atom reads an atom.
 func (p *parser) atom(at int) api.Term {
 	switch {
-	case p.pass("true"):
+	case p.Pass("true"):
 		return api.Term{Kind: api.TmTrue, At: at}
-	case p.pass("false"):
+	case p.Pass("false"):
 		return api.Term{Kind: api.TmFalse, At: at}
-	case p.pass("("):
+	case p.Pass("("):
 		return p.enclosed(at)
-	case p.sees("{"):
+	case p.Sees("{"):
 		return p.record(at)
-	case p.pass("@"):
-		return p.of(api.TmCase, p.name(), at)
-	case p.pass("new"):
-		return p.of(api.TmNew, p.upper(), at)
-	case p.pass("raw"):
-		return p.of(api.TmRaw, p.upper(), at)
-	case p.ahead().Kind == api.TokInt:
+	case p.Pass("@"):
+		return p.of(api.TmCase, p.Name(), at)
+	case p.Pass("new"):
+		return p.of(api.TmNew, p.Upper(), at)
+	case p.Pass("raw"):
+		return p.of(api.TmRaw, p.Upper(), at)
+	case p.Ahead().Kind == api.TokInt:
 		return p.number(at)
-	case p.ahead().Kind == api.TokText:
-		return api.Term{Kind: api.TmText, Name: p.textOf(api.TokText, isText), At: at}
+	case p.Ahead().Kind == api.TokText:
+		return api.Term{Kind: api.TmText, Name: p.TextOf(api.TokText, isText), At: at}
 	}
 	return p.value(at)
 }
@@ -155,15 +155,15 @@ func (p *parser) atom(at int) api.Term {
 // number reads a number.
 func (p *parser) number(at int) api.Term {
 	// A number has so few digits that it is an int.
-	n, _ := strconv.Atoi(p.textOf(api.TokInt, isNumber))
+	n, _ := strconv.Atoi(p.TextOf(api.TokInt, isNumber))
 	return api.Term{Kind: api.TmInt, N: n, At: at}
 }
 
 // value reads the name of a value, its own module's or another one's.
 func (p *parser) value(at int) api.Term {
-	t := api.Term{Kind: api.TmVar, Name: p.name(), At: at}
-	if p.pass("/") {
-		t.Of, t.Name = t.Name, p.name()
+	t := api.Term{Kind: api.TmVar, Name: p.Name(), At: at}
+	if p.Pass("/") {
+		t.Of, t.Name = t.Name, p.Name()
 	}
 	return t
 }
@@ -171,19 +171,19 @@ func (p *parser) value(at int) api.Term {
 // enclosed reads what stands between ( and ), behind the first one: an expression, or one as a type, to which alone both belong.
 func (p *parser) enclosed(at int) api.Term {
 	t := p.expr()
-	if p.pass("as") {
+	if p.Pass("as") {
 		t = api.Term{Kind: api.TmAs, Shapes: []api.Shape{p.wholeType()}, Parts: []api.Term{t}, At: at}
 	}
-	p.want(")")
+	p.Want(")")
 	return t
 }
 
 // record reads a record.
 func (p *parser) record(at int) api.Term {
 	t := api.Term{Kind: api.TmRecord, At: at}
-	p.between("{", ",", "}", func() {
-		t.Names = p.another(t.Names)
-		p.want("=")
+	p.Between("{", ",", "}", func() {
+		t.Names = append(t.Names, p.Another(t.Names, p.Name))
+		p.Want("=")
 		t.Parts = append(t.Parts, p.expr())
 	})
 	return t
@@ -191,9 +191,9 @@ func (p *parser) record(at int) api.Term {
 
 // of reads the one part of an expression of a kind and a name, between ( and ).
 func (p *parser) of(kind int, name string, at int) api.Term {
-	p.want("(")
+	p.Want("(")
 	part := p.expr()
-	p.want(")")
+	p.Want(")")
 	return api.Term{Kind: kind, Name: name, Parts: []api.Term{part}, At: at}
 }
 

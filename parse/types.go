@@ -7,10 +7,10 @@ import (
 
 // wholeType reads a type that stands in no other one. Only such a one may be too great: how great it is, is known at its end.
 func (p *parser) wholeType() api.Shape {
-	at := p.ahead().At
+	at := p.Ahead().At
 	s := p.anyType()
 	if err := shape.Check(s); err != api.OK {
-		p.fail(err, at)
+		p.Fail(err, at)
 	}
 	return s
 }
@@ -18,33 +18,33 @@ func (p *parser) wholeType() api.Shape {
 // anyType reads a type.
 func (p *parser) anyType() api.Shape {
 	switch {
-	case p.pass("["):
+	case p.Pass("["):
 		return p.listType()
-	case p.sees("{"):
+	case p.Sees("{"):
 		return p.fieldsType(api.ShRecord, "{", ",", "}")
-	case p.sees("<"):
+	case p.Sees("<"):
 		return p.fieldsType(api.ShVariant, "<", "|", ">")
-	case p.sees("("):
+	case p.Sees("("):
 		return p.funType()
-	case p.ahead().Kind == api.TokName:
+	case p.Ahead().Kind == api.TokName:
 		return p.othersType()
 	}
-	return typeNamed(p.upper())
+	return typeNamed(p.Upper())
 }
 
 // listType reads a list's type behind its first sign.
 func (p *parser) listType() api.Shape {
 	part := p.anyType()
-	p.want("]")
+	p.Want("]")
 	return api.Shape{Kind: api.ShList, Parts: []api.Shape{part}}
 }
 
 // fieldsType reads the type of a record or a variant.
 func (p *parser) fieldsType(kind int, open, sign, end string) api.Shape {
 	s := api.Shape{Kind: kind}
-	p.between(open, sign, end, func() {
-		s.Names = p.another(s.Names)
-		p.want(":")
+	p.Between(open, sign, end, func() {
+		s.Names = append(s.Names, p.Another(s.Names, p.Name))
+		p.Want(":")
 		s.Parts = append(s.Parts, p.anyType())
 	})
 	return s
@@ -53,17 +53,17 @@ func (p *parser) fieldsType(kind int, open, sign, end string) api.Shape {
 // funType reads a function's type.
 func (p *parser) funType() api.Shape {
 	s := api.Shape{Kind: api.ShFun}
-	p.between("(", ",", ")", func() { s.Parts = append(s.Parts, p.anyType()) })
-	p.want("->")
+	p.Between("(", ",", ")", func() { s.Parts = append(s.Parts, p.anyType()) })
+	p.Want("->")
 	s.Parts = append(s.Parts, p.anyType())
 	return s
 }
 
 // othersType reads the name of another module's type.
 func (p *parser) othersType() api.Shape {
-	of := p.name()
-	p.want("/")
-	return api.Shape{Kind: api.ShName, Of: of, Name: p.upper()}
+	of := p.Name()
+	p.Want("/")
+	return api.Shape{Kind: api.ShName, Of: of, Name: p.Upper()}
 }
 
 // typeNamed tells the type whose text an upper name alone is.
