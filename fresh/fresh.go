@@ -1,4 +1,4 @@
-// Package fresh tells trees and modules as they are, in new memory: none of their lists is one that was handed in, and none stands in them twice. What may not be is told so, too.
+// Package fresh tells trees, binds and modules as they are, in new memory: none of their lists is one that was handed in, and none stands in them twice. What may not be is told so, too.
 package fresh
 
 import (
@@ -22,6 +22,15 @@ func Term(t api.Term) api.Term {
 			t.Shapes[i] = Shape(s)
 		}
 	})
+}
+
+// Binds tells binds in new memory.
+func Binds(l []api.Bind) []api.Bind {
+	l = slices.Clone(l)
+	for i, b := range l {
+		l[i].Shape = Shape(b.Shape)
+	}
+	return l
 }
 
 // Module tells a module in new memory.

@@ -101,6 +101,25 @@ func anyModule() api.Module {
 	return api.Module{Name: "P", Imports: spare(one, one, one, api.Import{}), Decls: spare(decl, decl, api.Decl{}, decl), Exports: spare("z", "a", "a"), At: -7}
 }
 
+// TestBinds: whatever binds are handed in are told as they are, in new memory, and left as they are.
+func TestBinds(t *testing.T) {
+	binds := func() []api.Bind {
+		return spare(api.Bind{Name: "Z"}, api.Bind{Of: "q", Name: "A", Shape: anyShape()}, api.Bind{}, api.Bind{Of: "\xff", Name: "let", Shape: doubled(anyShape(), 3, pairShape)}, api.Bind{Of: "q", Name: "A", Shape: anyShape()})
+	}
+	for _, l := range [][]api.Bind{nil, {}, {{}}, {{Shape: api.Shape{Names: []string{}, Parts: []api.Shape{}}}}, binds()} {
+		wantFresh(t, l, fresh.Binds(l))
+	}
+	l := binds()
+	wantFresh(t, append(l, l[0]), fresh.Binds(append(l, l[0])))
+	l = binds()
+	copied := fresh.Binds(l)
+	copied[0].Name, copied[0].Shape.Names[0], copied[2].Shape.Parts[1].Kind = "q", "q", 77
+	_ = append(copied, api.Bind{Name: "q"})
+	if !reflect.DeepEqual(l[:5], append(binds(), api.Bind{Name: "Z"})) {
+		t.Errorf("%v", l)
+	}
+}
+
 // TestModule: whatever module is handed in is told as it is, in new memory, and left as it is.
 func TestModule(t *testing.T) {
 	for _, m := range []api.Module{{}, anyModule(), {Imports: []api.Import{}, Decls: []api.Decl{}, Exports: []string{}}, {Imports: []api.Import{{Range: []api.Bound{}}}, Decls: []api.Decl{{Shape: api.Shape{Names: []string{}}, Term: api.Term{Vars: []string{}}}}}} {
