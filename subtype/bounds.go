@@ -2,6 +2,7 @@ package subtype
 
 import (
 	"pandect/api"
+	"pandect/pairs"
 	"pandect/shape"
 )
 
@@ -49,7 +50,7 @@ func meet(a, b api.Shape) (api.Shape, bool) {
 // ofBoth makes a type of the names that both have, where there is a bound of their parts.
 func ofBoth(a, b api.Shape, of bound) (api.Shape, bool) {
 	made := api.Shape{Kind: a.Kind}
-	ok := eachName(a, b, func(name string, x, y *api.Shape) bool {
+	ok := pairs.Names(a, b, func(name string, x, y *api.Shape) bool {
 		if x == nil || y == nil {
 			return true
 		}
@@ -64,7 +65,7 @@ func ofBoth(a, b api.Shape, of bound) (api.Shape, bool) {
 // ofEither makes a type of all names, where there is a bound of all parts that stand by the same name.
 func ofEither(a, b api.Shape, of bound) (api.Shape, bool) {
 	made := api.Shape{Kind: a.Kind}
-	ok := eachName(a, b, func(name string, x, y *api.Shape) bool {
+	ok := pairs.Names(a, b, func(name string, x, y *api.Shape) bool {
 		part, ok := api.Shape{}, true
 		switch {
 		case y == nil:
@@ -83,7 +84,7 @@ func ofEither(a, b api.Shape, of bound) (api.Shape, bool) {
 // ofPlaces makes a type of bounds of parts in the same place: of the last one that of results, of the others that of arguments.
 func ofPlaces(a, b api.Shape, ofArgument, ofResult bound) (api.Shape, bool) {
 	made := api.Shape{Kind: a.Kind, Of: a.Of, Name: a.Name}
-	ok := eachPlace(a, b, func(x, y api.Shape, last bool) bool {
+	ok := pairs.Places(a, b, func(x, y api.Shape, last bool) bool {
 		of := ofArgument
 		if last {
 			of = ofResult

@@ -2,59 +2,16 @@ package subtype_test
 
 import (
 	"maps"
-	"math/rand"
 	"slices"
-	"testing"
 
 	"pandect/api"
-	"pandect/parse"
+	"pandect/sample"
 	"pandect/shape"
 )
 
-// typed is the type of a text, in which the names of package own are opaque types.
-func typed(t *testing.T, text string) api.Shape {
-	t.Helper()
-	s, fault := parse.TypeText(text)
-	if fault.Err != api.OK {
-		t.Fatalf("%q: error %d at %d", text, int(fault.Err), fault.At)
-	}
-	var veil func(s *api.Shape)
-	veil = func(s *api.Shape) {
-		if s.Kind == api.ShName && s.Of == "own" {
-			s.Kind = api.ShOpaque
-		}
-		for i := range s.Parts {
-			veil(&s.Parts[i])
-		}
-	}
-	veil(&s)
-	return s
-}
-
-// key is a text that only one type has, in one order of its names: a ! stands ahead of what is opaque.
-func key(s api.Shape) string {
-	text := string(rune('0'+s.Kind)) + s.Of + "/" + s.Name + "("
-	for i, part := range s.Parts {
-		if i < len(s.Names) {
-			text += s.Names[i] + ":"
-		}
-		text += key(part) + ","
-	}
-	return text + ")"
-}
-
-// fieldsOf are the parts of a record or a variant by their names.
-func fieldsOf(s api.Shape) map[string]api.Shape {
-	m := map[string]api.Shape{}
-	for i, name := range s.Names {
-		m[name] = s.Parts[i]
-	}
-	return m
-}
-
 // modelBelow answers by the chapter's words, line by line, of types that may be.
 func modelBelow(a, b api.Shape) bool {
-	x, y := fieldsOf(a), fieldsOf(b)
+	x, y := sample.Fields(a), sample.Fields(b)
 	switch [2]int{a.Kind, b.Kind} {
 	case [2]int{1, 1}, [2]int{2, 2}, [2]int{3, 3}, [2]int{4, 4}:
 		return true
@@ -112,7 +69,7 @@ func modelBound(a, b api.Shape, up int) (api.Shape, bool) {
 		}
 		return s, true
 	}
-	x, y := fieldsOf(a), fieldsOf(b)
+	x, y := sample.Fields(a), sample.Fields(b)
 	all := maps.Clone(x)
 	maps.Copy(all, y)
 	for _, name := range slices.Sorted(maps.Keys(all)) {
@@ -132,19 +89,6 @@ func modelBound(a, b api.Shape, up int) (api.Shape, bool) {
 	}
 	return s, true
 }
-
-// list, record, variant and fun make types of parts.
-func list(s api.Shape) api.Shape { return api.Shape{Kind: api.ShList, Parts: []api.Shape{s}} }
-
-func record(names []string, parts ...api.Shape) api.Shape {
-	return api.Shape{Kind: api.ShRecord, Names: names, Parts: parts}
-}
-
-func variant(names []string, parts ...api.Shape) api.Shape {
-	return api.Shape{Kind: api.ShVariant, Names: names, Parts: parts}
-}
-
-func fun(parts ...api.Shape) api.Shape { return api.Shape{Kind: api.ShFun, Parts: parts} }
 
 // choices are all lists of n of some types.
 func choices(l []api.Shape, n int) [][]api.Shape {
@@ -171,78 +115,16 @@ func grown(leaves, l []api.Shape, names []string, arguments ...int) []api.Shape 
 			}
 		}
 		for _, parts := range choices(l, len(some)) {
-			all = append(all, record(some, parts...), variant(some, parts...))
+			all = append(all, sample.Record(some, parts...), sample.Variant(some, parts...))
 		}
 	}
 	for _, s := range l {
-		all = append(all, list(s))
+		all = append(all, sample.List(s))
 	}
 	for _, n := range arguments {
 		for _, parts := range choices(l, n+1) {
-			all = append(all, fun(parts...))
+			all = append(all, sample.Fun(parts...))
 		}
 	}
 	return all
-}
-
-// anyType makes a type that may be, of few names; one with a greater number has more within.
-func anyType(r *rand.Rand, deep int) api.Shape {
-	leaf := func() api.Shape {
-		l := []api.Shape{{Kind: 1}, {Kind: 1}, {Kind: 2}, {Kind: 3}, {Kind: 4}, {Kind: 9, Name: "K"}, {Kind: 9, Of: "q", Name: "K"}, {Kind: 10, Of: "q", Name: "K"}, {Kind: 6}, {Kind: 7}}
-		return l[r.Intn(len(l))]
-	}
-	if deep == 0 {
-		return leaf()
-	}
-	switch r.Intn(6) {
-	case 0:
-		return leaf()
-	case 1:
-		return list(anyType(r, deep-1))
-	case 2:
-		s := api.Shape{Kind: api.ShFun}
-		for range 1 + r.Intn(3) {
-			s.Parts = append(s.Parts, anyType(r, deep-1))
-		}
-		return s
-	default:
-		s := api.Shape{Kind: api.ShRecord + r.Intn(2)}
-		for _, i := range r.Perm(5)[:r.Intn(5)] {
-			s.Names, s.Parts = append(s.Names, fewNames()[i]), append(s.Parts, anyType(r, deep-1))
-		}
-		return s
-	}
-}
-
-// fewNames are names, not in the order of texts.
-func fewNames() []string { return []string{"b", "aB", "a", "ab", "a_"} }
-
-// likeIt makes a type that is another one but for something here and there: a name less or more, names in another order, seldom a whole part.
-func likeIt(r *rand.Rand, s api.Shape) api.Shape {
-	if r.Intn(24) == 0 {
-		return anyType(r, 1)
-	}
-	other := api.Shape{Kind: s.Kind, Of: s.Of, Name: s.Name}
-	for _, part := range s.Parts {
-		other.Parts = append(other.Parts, likeIt(r, part))
-	}
-	if s.Kind != api.ShRecord && s.Kind != api.ShVariant {
-		return other
-	}
-	parts := fieldsOf(record(s.Names, other.Parts...))
-	other.Parts = nil
-	for _, i := range r.Perm(5) {
-		name := fewNames()[i]
-		part, ok := parts[name]
-		switch {
-		case ok && r.Intn(5) == 0:
-			continue
-		case !ok && r.Intn(5) == 0:
-			part = anyType(r, 1)
-		case !ok:
-			continue
-		}
-		other.Names, other.Parts = append(other.Names, name), append(other.Parts, part)
-	}
-	return other
 }

@@ -1,16 +1,15 @@
 package subtype_test
 
 import (
-	"math"
 	"math/rand"
 	"reflect"
 	"slices"
-	"strconv"
 	"strings"
 	"testing"
 
 	"pandect/api"
 	"pandect/fresh"
+	"pandect/sample"
 	"pandect/shape"
 	"pandect/subtype"
 )
@@ -37,7 +36,7 @@ func wantBound(t *testing.T, name string, a, b, want api.Shape, ok bool) {
 		want = api.Shape{}
 	}
 	for range 2 {
-		if s, got := ask(a, b); got != ok || key(s) != key(want) {
+		if s, got := ask(a, b); got != ok || sample.Key(s) != sample.Key(want) {
 			t.Errorf("%s(%.200v, %.200v) = %.200v, %v, want %.200v, %v", name, a, b, s, got, want, ok)
 		}
 		a, b = b, a
@@ -48,10 +47,10 @@ func wantBound(t *testing.T, name string, a, b, want api.Shape, ok bool) {
 func wantText(t *testing.T, name, a, b, want string) {
 	t.Helper()
 	if want == "-" {
-		wantBound(t, name, typed(t, a), typed(t, b), api.Shape{}, false)
+		wantBound(t, name, sample.Type(a), sample.Type(b), api.Shape{}, false)
 		return
 	}
-	wantBound(t, name, typed(t, a), typed(t, b), typed(t, want), true)
+	wantBound(t, name, sample.Type(a), sample.Type(b), sample.Type(want), true)
 }
 
 // wantLaws asks everything of two types that may be, against the models and what follows from the chapter's words; it tells their join and their meet.
@@ -87,7 +86,7 @@ func wantLaws(t *testing.T, a, b api.Shape) (join, meet api.Shape) {
 // TestExamples: the chapter's examples.
 func TestExamples(t *testing.T) {
 	for _, pair := range [][2]string{{"{a: Int, b: Text}", "{a: Int}"}, {"<a: Int>", "<a: Int | b: Text>"}, {"({}) -> Int", "({a: Int}) -> Int"}} {
-		wantBelow(t, typed(t, pair[0]), typed(t, pair[1]), "<")
+		wantBelow(t, sample.Type(pair[0]), sample.Type(pair[1]), "<")
 	}
 	wantText(t, "Join", "{a: Int, b: Text}", "{b: Text, c: Int}", "{b: Text}")
 	wantText(t, "Meet", "{a: Int, b: Text}", "{b: Text, c: Int}", "{a: Int, b: Text, c: Int}")
@@ -112,7 +111,7 @@ func TestBelow(t *testing.T) {
 		{"(({a: Int}) -> Int) -> Int", "<", "(({}) -> Int) -> Int"}, {"((() -> {}) -> Int) -> Int", ">", "((() -> {a: Int}) -> Int) -> Int"}, {"() -> ({}) -> Int", "<", "() -> ({a: Int}) -> Int"},
 		{"{f: ({}) -> <a: {b: Int}>, g: Int}", "<", "{f: ({c: Any}) -> <a: {} | b: Text>}"},
 	} {
-		wantBelow(t, typed(t, c[0]), typed(t, c[2]), c[1])
+		wantBelow(t, sample.Type(c[0]), sample.Type(c[2]), c[1])
 	}
 }
 
@@ -121,7 +120,7 @@ func TestKinds(t *testing.T) {
 	all := []string{"Int", "Bool", "Text", "Any", "[Int]", "{}", "<>", "() -> Int", "{a: Int}", "<a: Int>", "K", "q/K", "own/K", "own/L", "L", "(Int) -> Int"}
 	for i, a := range all {
 		for j, b := range all {
-			x, y := typed(t, a), typed(t, b)
+			x, y := sample.Type(a), sample.Type(b)
 			switch related := a[0] == b[0] && strings.ContainsAny(a[:1], "{<"); {
 			case i == j:
 				wantBelow(t, x, y, "=")
@@ -162,8 +161,8 @@ func TestOrdered(t *testing.T) {
 	wantText(t, "Meet", "{z: {b: Int, a: Int}, a_: Int}", "{b: {d: <b: Int | a: Int>, c: ({b: Int, a: Int}) -> Int}, a: Int, a1: Int}", "{a: Int, a1: Int, a_: Int, b: {c: ({a: Int, b: Int}) -> Int, d: <a: Int | b: Int>}, z: {a: Int, b: Int}}")
 	wantText(t, "Join", "<z: <b: Int | a: Int> | b: [{b: Int, a: Int}]>", "<c: {b: Int, a: Int} | a: Int>", "<a: Int | b: [{a: Int, b: Int}] | c: {a: Int, b: Int} | z: <a: Int | b: Int>>")
 	for _, text := range []string{"{b: Int, a: {d: Int, c: Int}}", "<b: Int | a: <d: Int | c: Int>>", "({b: Int, a: Int}) -> <b: Int | a: Int>", "[{b: Int, a: Int}]"} {
-		wantBound(t, "Join", typed(t, text), typed(t, text), shape.Sort(typed(t, text)), true)
-		wantBound(t, "Meet", typed(t, text), typed(t, text), shape.Sort(typed(t, text)), true)
+		wantBound(t, "Join", sample.Type(text), sample.Type(text), shape.Sort(sample.Type(text)), true)
+		wantBound(t, "Meet", sample.Type(text), sample.Type(text), shape.Sort(sample.Type(text)), true)
 	}
 }
 
@@ -187,7 +186,7 @@ func wantWorld(t *testing.T, world []api.Shape) {
 	at := map[string]int{}
 	above, under := make([][]uint64, len(world)), make([][]uint64, len(world))
 	for i, s := range world {
-		at[key(s)] = i
+		at[sample.Key(s)] = i
 		above[i], under[i] = make([]uint64, len(world)/64+1), make([]uint64, len(world)/64+1)
 	}
 	for i, a := range world {
@@ -226,7 +225,7 @@ func wantExtreme(t *testing.T, beyond [][]uint64, i, j int, at map[string]int, s
 		}
 		return
 	}
-	k, found := at[key(s)]
+	k, found := at[sample.Key(s)]
 	if !found || both[k/64]>>(k%64)&1 == 0 {
 		t.Fatalf("of %d and %d: %v is no bound", i, j, s)
 	}
@@ -239,11 +238,11 @@ func wantExtreme(t *testing.T, beyond [][]uint64, i, j int, at map[string]int, s
 
 // TestMany: P12.1 to P12.5 of many types that are like each other.
 func TestMany(t *testing.T) {
-	r := rand.New(rand.NewSource(12))
+	pick := sample.Pick(rand.New(rand.NewSource(12)).Intn)
 	joins, meets, chains := 0, 0, 0
 	for range 4000 {
-		s := anyType(r, 1+r.Intn(4))
-		l := []api.Shape{s, likeIt(r, s), likeIt(r, s)}
+		s := pick.Any(1 + pick(4))
+		l := []api.Shape{s, pick.Like(s), pick.Like(s)}
 		if slices.ContainsFunc(l, func(s api.Shape) bool { return shape.Check(s) != api.OK }) {
 			continue
 		}
@@ -251,11 +250,11 @@ func TestMany(t *testing.T) {
 		wantLaws(t, l[1], l[2])
 		if join.Kind != 0 {
 			joins++
-			l = append(l, join, likeIt(r, join))
+			l = append(l, join, pick.Like(join))
 		}
 		if meet.Kind != 0 {
 			meets++
-			l = append(l, meet, likeIt(r, meet))
+			l = append(l, meet, pick.Like(meet))
 		}
 		chains += wantChains(t, l, join, meet)
 	}
@@ -292,27 +291,18 @@ func wantChains(t *testing.T, l []api.Shape, join, meet api.Shape) int {
 	return beyond
 }
 
-// numbered is a type of that kind with so many parts, whose names go on from a first one.
-func numbered(kind, first, n int, part api.Shape) api.Shape {
-	s := api.Shape{Kind: kind}
-	for i := range n {
-		s.Names, s.Parts = append(s.Names, "n"+strconv.Itoa(first+i)), append(s.Parts, part)
-	}
-	return s
-}
-
 // TestSize: P12.2, bounds of as many parts as may be, and of one more, wherever in a type it grows.
 func TestSize(t *testing.T) {
 	i := api.Shape{Kind: api.ShInt}
 	same := func(s api.Shape) api.Shape { return s }
-	turn := func(s api.Shape) api.Shape { return fun(s, i) }
+	turn := func(s api.Shape) api.Shape { return sample.Fun(s, i) }
 	for _, c := range []struct {
 		join, meet int
 		more       int
 		around     func(api.Shape) api.Shape
 	}{
-		{api.ShVariant, api.ShRecord, 0, same}, {api.ShVariant, api.ShRecord, 1, list}, {api.ShVariant, api.ShRecord, 1, func(s api.Shape) api.Shape { return fun(s) }}, {api.ShRecord, api.ShVariant, 2, turn}, {api.ShVariant, api.ShRecord, 4, func(s api.Shape) api.Shape { return turn(turn(s)) }},
-		{api.ShVariant, api.ShRecord, 2, func(s api.Shape) api.Shape { return record([]string{"z", "a"}, s, i) }}, {api.ShVariant, api.ShRecord, 2, func(s api.Shape) api.Shape { return variant([]string{"z", "a"}, s, i) }},
+		{api.ShVariant, api.ShRecord, 0, same}, {api.ShVariant, api.ShRecord, 1, sample.List}, {api.ShVariant, api.ShRecord, 1, func(s api.Shape) api.Shape { return sample.Fun(s) }}, {api.ShRecord, api.ShVariant, 2, turn}, {api.ShVariant, api.ShRecord, 4, func(s api.Shape) api.Shape { return turn(turn(s)) }},
+		{api.ShVariant, api.ShRecord, 2, func(s api.Shape) api.Shape { return sample.Record([]string{"z", "a"}, s, i) }}, {api.ShVariant, api.ShRecord, 2, func(s api.Shape) api.Shape { return sample.Variant([]string{"z", "a"}, s, i) }},
 	} {
 		for _, most := range []int{399, 400, 401, 402, 700} {
 			n := most - 1 - c.more
@@ -321,7 +311,7 @@ func TestSize(t *testing.T) {
 					continue
 				}
 				for kind, name := range map[int]string{c.join: "Join", c.meet: "Meet"} {
-					a, b, both := c.around(numbered(kind, 1000, first, i)), c.around(numbered(kind, 1000+first, n-first, i)), c.around(numbered(kind, 1000, n, i))
+					a, b, both := c.around(sample.Numbered(kind, 1000, first, i)), c.around(sample.Numbered(kind, 1000+first, n-first, i)), c.around(sample.Numbered(kind, 1000, n, i))
 					wantBound(t, name, a, b, shape.Sort(both), most <= 400)
 				}
 			}
@@ -329,85 +319,77 @@ func TestSize(t *testing.T) {
 	}
 	// A type of as many parts as may be with itself, and with one of nothing.
 	for _, kind := range []int{api.ShRecord, api.ShVariant} {
-		great, none := numbered(kind, 1000, 399, i), api.Shape{Kind: kind}
+		great, none := sample.Numbered(kind, 1000, 399, i), api.Shape{Kind: kind}
 		wantLaws(t, great, great)
 		wantLaws(t, great, none)
-		wantLaws(t, great, numbered(kind, 1200, 199, i))
+		wantLaws(t, great, sample.Numbered(kind, 1200, 199, i))
 	}
-	wide := fun(slices.Repeat([]api.Shape{i}, 399)...)
+	wide := sample.Fun(slices.Repeat([]api.Shape{i}, 399)...)
 	wantLaws(t, wide, wide)
-	wantLaws(t, wide, fun(wide.Parts[1:]...))
+	wantLaws(t, wide, sample.Fun(wide.Parts[1:]...))
 }
 
 // TestSizeWithin: P12.2, what stands within is made however great it is: a name is not left out for its size, and what is left out for another thing counts for nothing.
 func TestSizeWithin(t *testing.T) {
 	i, x := api.Shape{Kind: api.ShInt}, api.Shape{Kind: api.ShText}
 	for _, half := range []int{150, 198, 199, 200, 250} {
-		v, w := numbered(api.ShVariant, 1000, half, i), numbered(api.ShVariant, 1000+half, half, i)
-		q, r := numbered(api.ShRecord, 1000, half, i), numbered(api.ShRecord, 1000+half, half, i)
+		v, w := sample.Numbered(api.ShVariant, 1000, half, i), sample.Numbered(api.ShVariant, 1000+half, half, i)
+		q, r := sample.Numbered(api.ShRecord, 1000, half, i), sample.Numbered(api.ShRecord, 1000+half, half, i)
 		ok := 2+2*half <= 400
-		wantBound(t, "Join", record([]string{"x", "y"}, v, i), record([]string{"x", "z"}, w, i), record([]string{"x"}, numbered(api.ShVariant, 1000, 2*half, i)), ok)
-		wantBound(t, "Meet", variant([]string{"x", "y"}, q, i), variant([]string{"x", "z"}, r, i), variant([]string{"x"}, numbered(api.ShRecord, 1000, 2*half, i)), ok)
+		wantBound(t, "Join", sample.Record([]string{"x", "y"}, v, i), sample.Record([]string{"x", "z"}, w, i), sample.Record([]string{"x"}, sample.Numbered(api.ShVariant, 1000, 2*half, i)), ok)
+		wantBound(t, "Meet", sample.Variant([]string{"x", "y"}, q, i), sample.Variant([]string{"x", "z"}, r, i), sample.Variant([]string{"x"}, sample.Numbered(api.ShRecord, 1000, 2*half, i)), ok)
 		// The same further within, where a bound stands in another one.
-		great, few := numbered(api.ShVariant, 1000, 2*half, i), numbered(api.ShRecord, 1000, 2*half, i)
-		for _, around := range []func(api.Shape) api.Shape{list, func(s api.Shape) api.Shape { return fun(s) }, func(s api.Shape) api.Shape { return fun(fun(s, i), i) }} {
-			ok := shape.Size(record([]string{"x"}, around(great))) <= 400
-			wantBound(t, "Join", record([]string{"x"}, around(v)), record([]string{"x"}, around(w)), record([]string{"x"}, around(great)), ok)
-			wantBound(t, "Meet", variant([]string{"x"}, around(q)), variant([]string{"x"}, around(r)), variant([]string{"x"}, around(few)), ok)
+		great, few := sample.Numbered(api.ShVariant, 1000, 2*half, i), sample.Numbered(api.ShRecord, 1000, 2*half, i)
+		for _, around := range []func(api.Shape) api.Shape{sample.List, func(s api.Shape) api.Shape { return sample.Fun(s) }, func(s api.Shape) api.Shape { return sample.Fun(sample.Fun(s, i), i) }} {
+			ok := shape.Size(sample.Record([]string{"x"}, around(great))) <= 400
+			wantBound(t, "Join", sample.Record([]string{"x"}, around(v)), sample.Record([]string{"x"}, around(w)), sample.Record([]string{"x"}, around(great)), ok)
+			wantBound(t, "Meet", sample.Variant([]string{"x"}, around(q)), sample.Variant([]string{"x"}, around(r)), sample.Variant([]string{"x"}, around(few)), ok)
 		}
 		ok = 3+2*half <= 400
-		wantBound(t, "Join", record([]string{"x"}, variant([]string{"c"}, v)), record([]string{"x"}, variant([]string{"c"}, w)), record([]string{"x"}, variant([]string{"c"}, great)), ok)
-		wantBound(t, "Join", record([]string{"x"}, fun(q, i)), record([]string{"x"}, fun(r, i)), record([]string{"x"}, fun(few, i)), ok)
-		wantBound(t, "Join", record([]string{"x"}, record([]string{"c"}, v)), record([]string{"x"}, record([]string{"c"}, w)), record([]string{"x"}, record([]string{"c"}, great)), ok)
-		wantBound(t, "Meet", variant([]string{"x"}, record([]string{"c"}, q)), variant([]string{"x"}, record([]string{"c"}, r)), variant([]string{"x"}, record([]string{"c"}, few)), ok)
-		wantBound(t, "Meet", variant([]string{"x"}, variant([]string{"c"}, q)), variant([]string{"x"}, variant([]string{"c"}, r)), variant([]string{"x"}, variant([]string{"c"}, few)), ok)
+		wantBound(t, "Join", sample.Record([]string{"x"}, sample.Variant([]string{"c"}, v)), sample.Record([]string{"x"}, sample.Variant([]string{"c"}, w)), sample.Record([]string{"x"}, sample.Variant([]string{"c"}, great)), ok)
+		wantBound(t, "Join", sample.Record([]string{"x"}, sample.Fun(q, i)), sample.Record([]string{"x"}, sample.Fun(r, i)), sample.Record([]string{"x"}, sample.Fun(few, i)), ok)
+		wantBound(t, "Join", sample.Record([]string{"x"}, sample.Record([]string{"c"}, v)), sample.Record([]string{"x"}, sample.Record([]string{"c"}, w)), sample.Record([]string{"x"}, sample.Record([]string{"c"}, great)), ok)
+		wantBound(t, "Meet", sample.Variant([]string{"x"}, sample.Record([]string{"c"}, q)), sample.Variant([]string{"x"}, sample.Record([]string{"c"}, r)), sample.Variant([]string{"x"}, sample.Record([]string{"c"}, few)), ok)
+		wantBound(t, "Meet", sample.Variant([]string{"x"}, sample.Variant([]string{"c"}, q)), sample.Variant([]string{"x"}, sample.Variant([]string{"c"}, r)), sample.Variant([]string{"x"}, sample.Variant([]string{"c"}, few)), ok)
 		// What grows too great stands beside what has no bound, and so the name is left out.
 		for _, at := range []int{0, 1} {
 			names := []string{"a", "z"}
-			first, second := variant(names, v, i), variant(names, w, x)
-			third, fourth := record(names, q, i), record(names, r, x)
+			first, second := sample.Variant(names, v, i), sample.Variant(names, w, x)
+			third, fourth := sample.Record(names, q, i), sample.Record(names, r, x)
 			if at == 1 {
-				first, second, third, fourth = variant(names, i, v), variant(names, x, w), record(names, i, q), record(names, x, r)
+				first, second, third, fourth = sample.Variant(names, i, v), sample.Variant(names, x, w), sample.Record(names, i, q), sample.Record(names, x, r)
 			}
-			wantBound(t, "Join", record([]string{"x", "y"}, first, i), record([]string{"x", "y"}, second, i), record([]string{"y"}, i), true)
-			wantBound(t, "Meet", variant([]string{"x", "y"}, third, i), variant([]string{"x", "y"}, fourth, i), variant([]string{"y"}, i), true)
-			wantBound(t, "Join", record([]string{"x"}, fun(third, i)), record([]string{"x"}, fun(fourth, i)), api.Shape{Kind: api.ShRecord}, true)
+			wantBound(t, "Join", sample.Record([]string{"x", "y"}, first, i), sample.Record([]string{"x", "y"}, second, i), sample.Record([]string{"y"}, i), true)
+			wantBound(t, "Meet", sample.Variant([]string{"x", "y"}, third, i), sample.Variant([]string{"x", "y"}, fourth, i), sample.Variant([]string{"y"}, i), true)
+			wantBound(t, "Join", sample.Record([]string{"x"}, sample.Fun(third, i)), sample.Record([]string{"x"}, sample.Fun(fourth, i)), api.Shape{Kind: api.ShRecord}, true)
 		}
 	}
-}
-
-// within is a type, so many lists deep.
-func within(s api.Shape, lists int) api.Shape {
-	for range lists {
-		s = list(s)
-	}
-	return s
 }
 
 // TestDeep: P12.1, P12.2, types of as many levels as may be, and of one more.
 func TestDeep(t *testing.T) {
 	i := api.Shape{Kind: api.ShInt}
-	deepest := within(i, 39)
+	deepest := sample.Within(i, 39)
 	wantLaws(t, deepest, deepest)
-	wantLaws(t, deepest, within(i, 38))
-	a, b := record([]string{"a"}, within(i, 38)), record([]string{"b"}, within(i, 38))
+	wantLaws(t, deepest, sample.Within(i, 38))
+	a, b := sample.Record([]string{"a"}, sample.Within(i, 38)), sample.Record([]string{"b"}, sample.Within(i, 38))
 	wantLaws(t, a, b)
-	wantBound(t, "Meet", a, b, record([]string{"a", "b"}, within(i, 38), within(i, 38)), true)
-	wantBound(t, "Join", within(variant([]string{"a"}, i), 38), within(variant([]string{"b"}, i), 38), within(variant([]string{"a", "b"}, i, i), 38), true)
+	wantBound(t, "Meet", a, b, sample.Record([]string{"a", "b"}, sample.Within(i, 38), sample.Within(i, 38)), true)
+	wantBound(t, "Join", sample.Within(sample.Variant([]string{"a"}, i), 38), sample.Within(sample.Variant([]string{"b"}, i), 38), sample.Within(sample.Variant([]string{"a", "b"}, i, i), 38), true)
 	turned := i
 	for range 39 {
-		turned = fun(turned, i)
+		turned = sample.Fun(turned, i)
 	}
 	wantLaws(t, turned, turned)
-	wantNone(t, within(i, 40), i)
-	wantNone(t, within(i, 40), deepest)
-	wantNone(t, record([]string{"a"}, deepest), a)
-	wantNone(t, record([]string{"c"}, deepest), a)
+	wantNone(t, sample.Within(i, 40), i)
+	wantNone(t, sample.Within(i, 40), deepest)
+	wantNone(t, sample.Record([]string{"a"}, deepest), a)
+	wantNone(t, sample.Record([]string{"c"}, deepest), a)
 	// Each level at which a type is an argument turns what is below.
 	for n := range 39 {
-		x, y, sign := record([]string{"a"}, i), api.Shape{Kind: api.ShRecord}, "<"
+		x, y, sign := sample.Record([]string{"a"}, i), api.Shape{Kind: api.ShRecord}, "<"
 		for range n {
-			x, y = fun(x, i), fun(y, i)
+			x, y = sample.Fun(x, i), sample.Fun(y, i)
 		}
 		if n%2 == 1 {
 			sign = ">"
@@ -424,51 +406,28 @@ func wantNone(t *testing.T, a, b api.Shape) {
 	wantBound(t, "Meet", a, b, api.Shape{}, false)
 }
 
-// wrong are types that may not be.
-func wrong() []api.Shape {
-	i := api.Shape{Kind: api.ShInt}
-	l := []api.Shape{record([]string{"a", "a"}, i, i), record([]string{"a"}), record(nil, i), record([]string{"A"}, i), record([]string{"let"}, i), variant([]string{"b", "a", "b"}, i, i, i), variant([]string{""}, i), variant([]string{"a", "b"}, i), fun(), {Kind: api.ShList}, {Kind: api.ShList, Parts: []api.Shape{i, i}}}
-	for _, kind := range []int{0, 11, -1, 1<<32 + 1, 1<<32 + 6, math.MaxInt, math.MinInt} {
-		l = append(l, api.Shape{Kind: kind})
-	}
-	for kind := api.ShInt; kind <= api.ShFun; kind++ {
-		l = append(l, api.Shape{Kind: kind, Name: "K"}, api.Shape{Kind: kind, Of: "q"})
-	}
-	for _, kind := range []int{api.ShName, api.ShOpaque} {
-		for _, name := range [][2]string{{"", ""}, {"q", ""}, {"", "k"}, {"q", "k"}, {"Q", "K"}, {"let", "K"}, {"", "Int"}} {
-			l = append(l, api.Shape{Kind: kind, Of: name[0], Name: name[1]})
-		}
-		l = append(l, api.Shape{Kind: kind, Of: "q", Name: "K", Parts: []api.Shape{i}})
-	}
-	return append(l, numbered(api.ShRecord, 1000, 400, i), within(i, 40), within(i, 400))
-}
-
 // TestWrong: P12.1, P12.2, what may not be is below nothing, and nothing below it; it has no bound, also where nobody would look at it.
 func TestWrong(t *testing.T) {
 	i, empty, none := api.Shape{Kind: api.ShInt}, api.Shape{Kind: api.ShRecord}, api.Shape{Kind: api.ShVariant}
-	for _, s := range wrong() {
-		for _, other := range []api.Shape{s, i, empty, none, {}, fun(i), list(i), {Kind: api.ShName, Name: "K"}, {Kind: api.ShOpaque, Of: "q", Name: "K"}} {
+	for _, s := range sample.Wrong() {
+		for _, other := range []api.Shape{s, i, empty, none, {}, sample.Fun(i), sample.List(i), {Kind: api.ShName, Name: "K"}, {Kind: api.ShOpaque, Of: "q", Name: "K"}} {
 			wantNone(t, s, other)
 		}
-		wantNone(t, record([]string{"a"}, s), empty)
-		wantNone(t, record([]string{"a", "b"}, s, i), record([]string{"b"}, i))
-		wantNone(t, record([]string{"a", "b"}, s, i), record([]string{"a"}, i))
-		wantNone(t, variant([]string{"a"}, s), none)
-		wantNone(t, variant([]string{"a", "b"}, i, s), variant([]string{"a"}, i))
-		wantNone(t, fun(s, i), fun(i))
-		wantNone(t, list(s), list(i))
-		wantNone(t, list(s), list(s))
-		wantNone(t, list(s), i)
+		wantNone(t, sample.Record([]string{"a"}, s), empty)
+		wantNone(t, sample.Record([]string{"a", "b"}, s, i), sample.Record([]string{"b"}, i))
+		wantNone(t, sample.Record([]string{"a", "b"}, s, i), sample.Record([]string{"a"}, i))
+		wantNone(t, sample.Variant([]string{"a"}, s), none)
+		wantNone(t, sample.Variant([]string{"a", "b"}, i, s), sample.Variant([]string{"a"}, i))
+		wantNone(t, sample.Fun(s, i), sample.Fun(i))
+		wantNone(t, sample.List(s), sample.List(i))
+		wantNone(t, sample.List(s), sample.List(s))
+		wantNone(t, sample.List(s), i)
 	}
-	endless := api.Shape{Kind: api.ShRecord, Names: []string{"a", "b"}, Parts: make([]api.Shape, 2)}
-	endless.Parts[0], endless.Parts[1] = endless, endless
-	ladder := list(i)
-	ladder.Parts[0] = ladder
-	for _, s := range []api.Shape{endless, ladder} {
+	for _, s := range sample.Endless() {
 		wantEndless(t, s, s)
 		wantEndless(t, s, empty)
-		wantEndless(t, s, list(i))
-		wantEndless(t, record([]string{"a"}, s), empty)
+		wantEndless(t, s, sample.List(i))
+		wantEndless(t, sample.Record([]string{"a"}, s), empty)
 	}
 }
 
@@ -506,81 +465,32 @@ func TestEmpty(t *testing.T) {
 	}
 }
 
-// roomy is a type each list of which has more behind its end.
-func roomy(s api.Shape) api.Shape {
-	names, parts := append(slices.Clone(s.Names), "z"), append(slices.Clone(s.Parts), api.Shape{Kind: 77})
-	for i := range s.Parts {
-		parts[i] = roomy(s.Parts[i])
-	}
-	s.Names, s.Parts = names[:len(names)-1], parts[:len(parts)-1]
-	return s
-}
-
-// opened is a type with the room behind its lists as parts and names of it, all through.
-func opened(s api.Shape) api.Shape {
-	s.Names, s.Parts = slices.Clone(s.Names[:cap(s.Names)]), slices.Clone(s.Parts[:cap(s.Parts)])
-	for i := range s.Parts {
-		s.Parts[i] = opened(s.Parts[i])
-	}
-	return s
-}
-
-// taken puts down where the names and parts of a type stand, with the room behind them, and tells whether one stands there already.
-func taken(s api.Shape, names map[*string]struct{}, parts map[*api.Shape]struct{}) bool {
-	before := len(names) + len(parts)
-	allNames, allParts := s.Names[:cap(s.Names)], s.Parts[:cap(s.Parts)]
-	for i := range allNames {
-		names[&allNames[i]] = struct{}{}
-	}
-	for i := range allParts {
-		parts[&allParts[i]] = struct{}{}
-	}
-	twice := len(names)+len(parts) != before+len(allNames)+len(allParts)
-	for _, part := range s.Parts {
-		twice = taken(part, names, parts) || twice
-	}
-	return twice
-}
-
 // TestNew: rule 4, what is handed in is left as it is, and each list of what is handed out is new.
 func TestNew(t *testing.T) {
-	r := rand.New(rand.NewSource(4))
-	shared := typed(t, "{b: <d: Int | c: [Text]>, a: (K) -> own/K}")
-	pairs := [][2]api.Shape{{record([]string{"b", "a"}, shared, shared), record([]string{"d", "c"}, shared, shared)}, {variant([]string{"b", "a"}, shared, shared), variant([]string{"d", "c"}, shared, shared)}, {fun(shared, shared), fun(shared, shared)}, {shared, shared}, {list(shared), list(shared)}}
+	pick := sample.Pick(rand.New(rand.NewSource(4)).Intn)
+	shared := sample.Type("{b: <d: Int | c: [Text]>, a: (K) -> own/K}")
+	pairs := [][2]api.Shape{{sample.Record([]string{"b", "a"}, shared, shared), sample.Record([]string{"d", "c"}, shared, shared)}, {sample.Variant([]string{"b", "a"}, shared, shared), sample.Variant([]string{"d", "c"}, shared, shared)}, {sample.Fun(shared, shared), sample.Fun(shared, shared)}, {shared, shared}, {sample.List(shared), sample.List(shared)}}
 	for range 600 {
-		s := anyType(r, 3)
-		pairs = append(pairs, [2]api.Shape{roomy(s), roomy(likeIt(r, s))})
+		s := pick.Any(3)
+		pairs = append(pairs, [2]api.Shape{sample.Roomy(s), sample.Roomy(pick.Like(s))})
 	}
 	for _, pair := range pairs {
 		a, b := pair[0], pair[1]
-		wholeA, wholeB := opened(a), opened(b)
+		wholeA, wholeB := sample.Opened(a), sample.Opened(b)
 		join, joined := subtype.Join(a, b)
 		meet, met := subtype.Meet(a, b)
 		subtype.Below(a, b)
-		names, parts := map[*string]struct{}{}, map[*api.Shape]struct{}{}
-		taken(a, names, parts)
-		taken(b, names, parts)
-		if taken(join, names, parts) || taken(meet, names, parts) {
+		memory := sample.MemoryOf(a, b)
+		if memory.Taken(join) || memory.Taken(meet) {
 			t.Fatalf("bounds of %v and %v are not new", a, b)
 		}
 		keepJoin, keepMeet := fresh.Shape(join), fresh.Shape(meet)
-		scratch(join)
-		scratch(meet)
-		if !reflect.DeepEqual(opened(a), wholeA) || !reflect.DeepEqual(opened(b), wholeB) {
+		sample.Scratch(join)
+		sample.Scratch(meet)
+		if !reflect.DeepEqual(sample.Opened(a), wholeA) || !reflect.DeepEqual(sample.Opened(b), wholeB) {
 			t.Fatalf("%v or %v was changed", wholeA, wholeB)
 		}
 		wantBound(t, "Join", a, b, keepJoin, joined)
 		wantBound(t, "Meet", a, b, keepMeet, met)
-	}
-}
-
-// scratch changes all that stands in the lists of a type.
-func scratch(s api.Shape) {
-	for i := range s.Names {
-		s.Names[i] = "scratched"
-	}
-	for i := range s.Parts {
-		scratch(s.Parts[i])
-		s.Parts[i] = api.Shape{Kind: -1}
 	}
 }
