@@ -8,21 +8,53 @@ import (
 
 // Roomy is a type each list of which has more behind its end.
 func Roomy(s api.Shape) api.Shape {
-	names, parts := append(slices.Clone(s.Names), "z"), append(slices.Clone(s.Parts), api.Shape{Kind: 77})
-	for i := range s.Parts {
-		parts[i] = Roomy(s.Parts[i])
-	}
-	s.Names, s.Parts = names[:len(names)-1], parts[:len(parts)-1]
+	s.Names, s.Parts = room(s.Names, "z"), each(room(s.Parts, api.Shape{Kind: 77}), Roomy)
 	return s
 }
 
 // Opened is a type, copied, with the room behind its lists as parts and names of it, all through.
 func Opened(s api.Shape) api.Shape {
-	s.Names, s.Parts = slices.Clone(s.Names[:cap(s.Names)]), slices.Clone(s.Parts[:cap(s.Parts)])
-	for i := range s.Parts {
-		s.Parts[i] = Opened(s.Parts[i])
-	}
+	s.Names, s.Parts = opened(s.Names), each(opened(s.Parts), Opened)
 	return s
+}
+
+// room is a list, copied, with something behind its end.
+func room[E any](l []E, behind E) []E { return append(slices.Clone(l), behind)[:len(l)] }
+
+// opened is a list, copied, with what is behind its end.
+func opened[E any](l []E) []E { return slices.Clone(l[:cap(l)]) }
+
+// each changes all things of a list.
+func each[E any](l []E, change func(E) E) []E {
+	for i, one := range l {
+		l[i] = change(one)
+	}
+	return l
+}
+
+// RoomyTerm is an expression each list of which has more behind its end.
+func RoomyTerm(t api.Term) api.Term {
+	t.Names, t.Vars = room(t.Names, "z"), room(t.Vars, "z")
+	t.Shapes = each(room(t.Shapes, api.Shape{Kind: 77}), Roomy)
+	t.Parts = each(room(t.Parts, api.Term{Kind: 77}), RoomyTerm)
+	return t
+}
+
+// OpenedTerm is an expression, copied, with the room behind its lists, all through.
+func OpenedTerm(t api.Term) api.Term {
+	t.Names, t.Vars = opened(t.Names), opened(t.Vars)
+	t.Shapes, t.Parts = each(opened(t.Shapes), Opened), each(opened(t.Parts), OpenedTerm)
+	return t
+}
+
+// RoomyBinds are binds each list of which has more behind its end, as has the list of them.
+func RoomyBinds(l []api.Bind) []api.Bind {
+	return each(room(l, api.Bind{Name: "z"}), func(b api.Bind) api.Bind { return api.Bind{Of: b.Of, Name: b.Name, Shape: Roomy(b.Shape)} })
+}
+
+// OpenedBinds are binds, copied, with the room behind all lists.
+func OpenedBinds(l []api.Bind) []api.Bind {
+	return each(opened(l), func(b api.Bind) api.Bind { return api.Bind{Of: b.Of, Name: b.Name, Shape: Opened(b.Shape)} })
 }
 
 // Scratch changes all that stands in the lists of a type.
@@ -49,6 +81,24 @@ func MemoryOf(l ...api.Shape) Memory {
 		m.Taken(s)
 	}
 	return m
+}
+
+// AddTerm puts down where the names and types of an expression stand.
+func (m Memory) AddTerm(t api.Term) {
+	for _, l := range [][]string{t.Names, t.Vars} {
+		m.Taken(api.Shape{Names: l})
+	}
+	m.Taken(api.Shape{Parts: t.Shapes})
+	for _, part := range t.Parts {
+		m.AddTerm(part)
+	}
+}
+
+// AddBinds puts down where the names and parts of binds' types stand.
+func (m Memory) AddBinds(l []api.Bind) {
+	for _, b := range l {
+		m.Taken(b.Shape)
+	}
 }
 
 // Taken puts down where the names and parts of one more type stand, with the room behind them, and tells whether something stands there already.

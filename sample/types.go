@@ -1,4 +1,4 @@
-// Package sample makes types for the tests of the layers: by their texts, by their parts, at random, wrong ones, and such that what is done in their memory can be seen. It is for tests alone.
+// Package sample makes types and expressions for the tests of the layers: by their texts, by their parts, at random, wrong ones, and such that what is done in their memory can be seen. It is for tests alone.
 package sample
 
 import (
@@ -8,13 +8,19 @@ import (
 	"pandect/parse"
 )
 
-// Type is the type of a text, in which the names of package own are opaque types. It panics at a text that is wrong, as a test that is wrong itself must not pass.
-func Type(text string) api.Shape {
-	s, fault := parse.TypeText(text)
+// Type is the type of a text, in which the names of package own are opaque types. It panics at a text that is wrong.
+func Type(text string) api.Shape { return veiled(right(text, parse.TypeText)) }
+
+// Term is the expression of a text. It panics at a text that is wrong.
+func Term(text string) api.Term { return right(text, parse.TermText) }
+
+// right is what is read out of a text. It panics at one that is wrong, as a test that is wrong itself must not pass.
+func right[T any](text string, read func(string) (T, api.Fault)) T {
+	s, fault := read(text)
 	if fault != (api.Fault{}) {
 		panic(text)
 	}
-	return veiled(s)
+	return s
 }
 
 // veiled is a type in which the names of package own are opaque types.
