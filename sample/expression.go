@@ -55,11 +55,45 @@ type Maker struct {
 
 // Type makes a closed type, of so many levels above the leaves at most.
 func (m Maker) Type(deep int) api.Shape {
-	s, err := expand.Resolve(m.Pick.Any(deep), m.Env.Types)
+	s, err := expand.Resolve(m.spoken(m.Pick.Any(deep)), m.Env.Types)
 	if err != api.OK {
 		return Int()
 	}
 	return s
+}
+
+// spoken is a type in which any names of the environment stand in the places of names and of opaque types.
+func (m Maker) spoken(s api.Shape) api.Shape {
+	s.Parts = each(slices.Clone(s.Parts), m.spoken)
+	switch l := m.Env.Types; {
+	case s.Kind != api.ShName && s.Kind != api.ShOpaque:
+		return s
+	case len(l) == 0:
+		return Int()
+	default:
+		b := l[m.Pick(len(l))]
+		return api.Shape{Kind: api.ShName, Of: b.Of, Name: b.Name}
+	}
+}
+
+// Lowered makes a type below a closed one, or above it.
+func (m Maker) Lowered(s api.Shape, above bool) api.Shape {
+	low := api.Shape{Kind: s.Kind, Of: s.Of, Name: s.Name}
+	for i, part := range s.Parts {
+		low.Parts = append(low.Parts, m.Lowered(part, above != (s.Kind == api.ShFun && i < len(s.Parts)-1)))
+	}
+	low.Names = slices.Clone(s.Names)
+	switch {
+	case s.Kind == api.ShRecord && !above || s.Kind == api.ShVariant && above:
+		if name := []string{"b", "a", "none", "x", "more"}[m.Pick(5)]; !slices.Contains(low.Names, name) && m.Pick(2) == 0 {
+			low.Names, low.Parts = append(low.Names, name), append(low.Parts, m.Type(1))
+		}
+	case s.Kind == api.ShRecord || s.Kind == api.ShVariant:
+		if n := len(low.Names); n > 0 && m.Pick(2) == 0 {
+			low.Names, low.Parts = low.Names[:n-1], low.Parts[:n-1]
+		}
+	}
+	return low
 }
 
 // written is a closed type with names in the places of its opaque types, as in an expression.
@@ -91,11 +125,15 @@ func (m Maker) variable() string {
 
 // Term makes an expression, most often of a type that is near a closed one, in which so many parts that are not needed stand within each other at most.
 func (m Maker) Term(s api.Shape, deep int) api.Term {
-	if m.Slip > 0 && m.Pick(m.Slip) == 0 {
-		s = m.Type(1)
-	}
-	if deep <= 0 {
+	slips := m.Slip > 0 && m.Pick(m.Slip) == 0
+	// Without an end to what may be of any type, types that are great would let expressions grow without one.
+	switch {
+	case deep <= 0 && (slips || s.Kind == api.ShAny):
+		return api.Term{Kind: api.TmInt, N: m.Pick(1000)}
+	case deep <= 0:
 		return m.least(s, 0)
+	case slips:
+		s = m.Type(1)
 	}
 	deep--
 	other := m.Type(1)
@@ -259,7 +297,7 @@ func (m Maker) record(s api.Shape, deep int) api.Term {
 	for i, name := range m.Pick.mixed() {
 		part, ok := parts[name]
 		delete(parts, name)
-		if !ok && i != more {
+		if !ok && (i != more || deep <= 0) {
 			continue
 		}
 		if !ok {

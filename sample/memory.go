@@ -57,6 +57,48 @@ func OpenedBinds(l []api.Bind) []api.Bind {
 	return each(opened(l), func(b api.Bind) api.Bind { return api.Bind{Of: b.Of, Name: b.Name, Shape: Opened(b.Shape)} })
 }
 
+// RoomyItems are items each list of which has more behind its end, as has the list of them.
+func RoomyItems(l []api.Item) []api.Item {
+	return each(room(l, api.Item{Name: "z"}), func(item api.Item) api.Item {
+		return api.Item{Kind: item.Kind, Name: item.Name, Shape: Roomy(item.Shape)}
+	})
+}
+
+// OpenedItems are items, copied, with the room behind all lists.
+func OpenedItems(l []api.Item) []api.Item {
+	return each(opened(l), func(item api.Item) api.Item {
+		return api.Item{Kind: item.Kind, Name: item.Name, Shape: Opened(item.Shape)}
+	})
+}
+
+// RoomyModule is a module each list of which has more behind its end.
+func RoomyModule(m api.Module) api.Module {
+	m.Imports = each(room(m.Imports, api.Import{Name: "z"}), func(one api.Import) api.Import {
+		one.Range = room(one.Range, api.Bound{Op: 77})
+		return one
+	})
+	m.Decls = each(room(m.Decls, api.Decl{Name: "z"}), func(d api.Decl) api.Decl {
+		d.Shape, d.Term = Roomy(d.Shape), RoomyTerm(d.Term)
+		return d
+	})
+	m.Exports = room(m.Exports, "z")
+	return m
+}
+
+// OpenedModule is a module, copied, with the room behind its lists, all through.
+func OpenedModule(m api.Module) api.Module {
+	m.Imports = each(opened(m.Imports), func(one api.Import) api.Import {
+		one.Range = opened(one.Range)
+		return one
+	})
+	m.Decls = each(opened(m.Decls), func(d api.Decl) api.Decl {
+		d.Shape, d.Term = Opened(d.Shape), OpenedTerm(d.Term)
+		return d
+	})
+	m.Exports = opened(m.Exports)
+	return m
+}
+
 // Scratch changes all that stands in the lists of a type.
 func Scratch(s api.Shape) {
 	for i := range s.Names {
@@ -91,6 +133,22 @@ func (m Memory) AddTerm(t api.Term) {
 	m.Taken(api.Shape{Parts: t.Shapes})
 	for _, part := range t.Parts {
 		m.AddTerm(part)
+	}
+}
+
+// AddModule puts down where the names and types of a module stand.
+func (m Memory) AddModule(made api.Module) {
+	m.Taken(api.Shape{Names: made.Exports})
+	for _, d := range made.Decls {
+		m.Taken(d.Shape)
+		m.AddTerm(d.Term)
+	}
+}
+
+// AddItems puts down where the names and parts of items' types stand.
+func (m Memory) AddItems(l []api.Item) {
+	for _, item := range l {
+		m.Taken(item.Shape)
 	}
 }
 

@@ -1,15 +1,34 @@
-// Package sample makes types and expressions for the tests of the layers: by their texts, by their parts, at random, wrong ones, and such that what is done in their memory can be seen. It is for tests alone.
+// Package sample makes types, expressions and modules for the tests of the layers: by their texts, by their parts, at random, wrong ones, and such that what is done in their memory can be seen. It is for tests alone.
 package sample
 
 import (
 	"strconv"
+	"strings"
 
 	"pandect/api"
 	"pandect/parse"
 )
 
 // Type is the type of a text, in which the names of package own are opaque types. It panics at a text that is wrong.
-func Type(text string) api.Shape { return veiled(right(text, parse.TypeText)) }
+func Type(text string) api.Shape {
+	return veiled(right(text, parse.TypeText), func(of string) bool { return of == "own" })
+}
+
+// Face is an interface of lines, each an item: a word as in a source (type, opaque, let), the name and, but of an opaque type, the type. All names of packages are opaque types in it.
+func Face(lines ...string) []api.Item {
+	kinds := map[string]int{"type": api.DeType, "opaque": api.DeOpaque, "let": api.DeLet}
+	var items []api.Item
+	for _, line := range lines {
+		word, rest, _ := strings.Cut(line, " ")
+		name, text, typed := strings.Cut(rest, " ")
+		item := api.Item{Kind: kinds[word], Name: name}
+		if typed {
+			item.Shape = veiled(right(text, parse.TypeText), func(of string) bool { return of != "" })
+		}
+		items = append(items, item)
+	}
+	return items
+}
 
 // Term is the expression of a text. It panics at a text that is wrong.
 func Term(text string) api.Term { return right(text, parse.TermText) }
@@ -23,13 +42,13 @@ func right[T any](text string, read func(string) (T, api.Fault)) T {
 	return s
 }
 
-// veiled is a type in which the names of package own are opaque types.
-func veiled(s api.Shape) api.Shape {
-	if s.Kind == api.ShName && s.Of == "own" {
+// veiled is a type in which the names of some packages are opaque types.
+func veiled(s api.Shape, of func(string) bool) api.Shape {
+	if s.Kind == api.ShName && of(s.Of) {
 		s.Kind = api.ShOpaque
 	}
 	for i, part := range s.Parts {
-		s.Parts[i] = veiled(part)
+		s.Parts[i] = veiled(part, of)
 	}
 	return s
 }

@@ -471,26 +471,6 @@ func spoilt(pick sample.Pick, t api.Term, one int) api.Term {
 	return t
 }
 
-// lowered is a type below a closed one, or above it.
-func lowered(m sample.Maker, s api.Shape, above bool) api.Shape {
-	low := api.Shape{Kind: s.Kind, Of: s.Of, Name: s.Name}
-	for i, part := range s.Parts {
-		low.Parts = append(low.Parts, lowered(m, part, above != (s.Kind == api.ShFun && i < len(s.Parts)-1)))
-	}
-	low.Names = slices.Clone(s.Names)
-	switch {
-	case s.Kind == api.ShRecord && !above || s.Kind == api.ShVariant && above:
-		if name := []string{"b", "a", "none", "x", "more"}[m.Pick(5)]; !slices.Contains(low.Names, name) && m.Pick(2) == 0 {
-			low.Names, low.Parts = append(low.Names, name), append(low.Parts, m.Type(1))
-		}
-	case s.Kind == api.ShRecord || s.Kind == api.ShVariant:
-		if n := len(low.Names); n > 0 && m.Pick(2) == 0 {
-			low.Names, low.Parts = low.Names[:n-1], low.Parts[:n-1]
-		}
-	}
-	return low
-}
-
 // anyValues are values of the world and others, in a world whose types are as they were.
 func anyValues(m sample.Maker) api.Env {
 	env := world()
@@ -592,7 +572,7 @@ func TestWeaker(t *testing.T) {
 		weaker := m.Env
 		weaker.Values = fresh.Binds(m.Env.Values)
 		for i, b := range weaker.Values {
-			weaker.Values[i].Shape = lowered(m, b.Shape, false)
+			weaker.Values[i].Shape = m.Lowered(b.Shape, false)
 			if !subtype.Below(weaker.Values[i].Shape, b.Shape) {
 				t.Fatal(weaker.Values[i], b)
 			}
