@@ -1,9 +1,8 @@
-// Package sample makes types, expressions and modules for the tests of the layers: by their texts, by their parts, at random, wrong ones, and such that what is done in their memory can be seen. It is for tests alone.
+// Package sample makes types, expressions, modules and interfaces for the tests of the layers: by their texts, by their parts, at random, wrong ones, and such that what is done in their memory can be seen. It is for tests alone.
 package sample
 
 import (
 	"strconv"
-	"strings"
 
 	"pandect/api"
 	"pandect/parse"
@@ -12,22 +11,6 @@ import (
 // Type is the type of a text, in which the names of package own are opaque types. It panics at a text that is wrong.
 func Type(text string) api.Shape {
 	return veiled(right(text, parse.TypeText), func(of string) bool { return of == "own" })
-}
-
-// Face is an interface of lines, each an item: a word as in a source (type, opaque, let), the name and, but of an opaque type, the type. All names of packages are opaque types in it.
-func Face(lines ...string) []api.Item {
-	kinds := map[string]int{"type": api.DeType, "opaque": api.DeOpaque, "let": api.DeLet}
-	var items []api.Item
-	for _, line := range lines {
-		word, rest, _ := strings.Cut(line, " ")
-		name, text, typed := strings.Cut(rest, " ")
-		item := api.Item{Kind: kinds[word], Name: name}
-		if typed {
-			item.Shape = veiled(right(text, parse.TypeText), func(of string) bool { return of != "" })
-		}
-		items = append(items, item)
-	}
-	return items
 }
 
 // Term is the expression of a text. It panics at a text that is wrong.
